@@ -1,0 +1,1 @@
+"""Lookalike: a language whose secrets never flow."""
