@@ -55,7 +55,8 @@ def statements_within(blocks):
     found = []
     waiting = list(blocks)
     while waiting:
-        for statement in waiting.pop():
+        block = waiting.pop()
+        for statement in block:
             found.append(statement)
             waiting.extend(statement_blocks(statement))
     return found

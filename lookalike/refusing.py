@@ -32,10 +32,12 @@ def refusing_row(program):
     for knot, target in flows(program):
         leads.setdefault(knot, []).append(target)
     told = told_lots(program)
+    known = sources(program)
+    limits = caps(program)
     best = None
     for level in range(len(program[0])):
-        starts = [knot for knot, source in sources(program) if source == level]
-        ends = {knot: True for knot, lot in caps(program) if not covered(program[0], (level,), lot)}
+        starts = [knot for knot, source in known if source == level]
+        ends = {knot: True for knot, lot in limits if not covered(program[0], (level,), lot)}
         row = shortest_row(leads, told, starts, ends)
         if row is not None and (best is None or len(row) < len(best)):
             best = row
