@@ -155,7 +155,8 @@ class StandingTest(unittest.TestCase):
             for index, (knot, lot) in enumerate(labels):
                 for part in (None, (), knot, (knot,), (lot, knot), (knot, lot, lot), [knot, lot], (knot, None), (knot, 1),
                              (knot, list(lot)), (knot, (2,)), (knot, (1, 0)), (knot, (0, 0)), (knot, (True,)), (None, lot),
-                             (list(knot), lot), ([], lot), ((*knot, 0), lot), (knot[:2], lot), ((knot[0], knot[1], [])), lot):
+                             (list(knot), lot), ([], lot), ([[], *knot[1:]], lot), ((knot[0], [], knot[2]), lot),
+                             (([], *knot[1:]), lot), ((*knot, 0), lot), (knot[:2], lot), ((knot[0], knot[1], [])), lot):
                     wrong.append(replaced(labels, (index,), part))
             for value in (*NO_TUPLES, (), *wrong, *of_other_kinds(labels)):
                 self.assertIs(are_standing(program, value), False, value)

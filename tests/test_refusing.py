@@ -48,6 +48,31 @@ class RefusingRowTest(unittest.TestCase):
         self.assertEqual(refusing_row(program), row)
         self.assertIs(is_refusing_row(program, row), True)
 
+    def test_no_knot_stands_twice(self):
+        wait = ("while", A, (("skip", 1),))
+        program = (ORDER, (), (), (), (("t", (("a", None, 4),), (("take", "a", 1), wait, ("out", 0, ("word", 1, 0)))),))
+        name, end, clock, inner = ("name", "t", "a"), ("out", "t", (2,)), ("clock", "t", (1,)), ("clock", "t", (1, 0, 0))
+        behind = ("clock", "t", (2,))
+        self.assertIs(is_refusing_row(program, (name, clock, behind, end)), True)
+        self.assertEqual(flows(program).count((clock, inner)) + flows(program).count((inner, clock)), 2)
+        self.assertIs(is_refusing_row(program, (name, clock, inner, clock, behind, end)), False)
+
+    def test_no_told_lot_within(self):
+        def program(*lots):
+            names = [(name, lot, 4) for name, lot in zip("abcd", lots)]
+            sets = [("set", other, ("name", one)) for one, other in zip("abc", "bcd")]
+            return (ORDER, (), (), (), (("t", tuple(names), (("take", "a", 1), *sets, ("out", 0, ("name", "d")))),))
+        row = (*[("name", "t", name) for name in "abcd"], ("out", "t", (4,)))
+        self.assertEqual(refusing_row(program(None, None, None, None)), row)
+        for index in range(4):
+            lots = [None] * 4
+            lots[index] = (1,)
+            self.assertIs(is_refusing_row(program(*lots), row), index == 0)
+            self.assertEqual(refusing_row(program(*lots)), row[index:])
+            lots[index] = ()
+            if index > 0:
+                self.assertEqual(refusing_row(program(*lots)), row[:index + 1])
+
     def test_other_rows_of_the_example(self):
         for value in (ROW[1:], ROW[:-1], ROW[::-1], (), (*ROW, ROW[-1]), (ROW[0], *ROW), (ROW[0], *ROW[2:]), ROW[:1], ROW[3:],
                       (ROW[0], ("pc", "t", (1, 1)), *ROW[2:]), (("name", "t", "z"), *ROW[1:]), ROW + ROW,
@@ -59,8 +84,10 @@ class RefusingRowTest(unittest.TestCase):
             self.assertIs(is_refusing_row(EXAMPLE, value), False, value)
         for value in otherwise(ROW):
             self.assertIs(is_refusing_row(EXAMPLE, value), same(value, ROW), value)
-        for value in (None, [], {}, 1, "t"):
+        for value in (None, [], {}, 1, "t", ([], "t", ()), ("name", [], "a"), ("name", "t", []), ("pc", "t", ([],)),
+                      ("pc", "t", "a"), ("name", "t", ()), (None, None, None), ("pc", "t", ({},))):
             self.assertIs(is_refusing_row(EXAMPLE, (ROW[0], value, *ROW[2:])), False)
+            self.assertIs(is_refusing_row(EXAMPLE, (value,)), False)
 
     def test_there_is_one_exactly_if_the_least_labels_do_not_fit(self):
         found = {}
