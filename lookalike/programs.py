@@ -120,10 +120,10 @@ def is_statement(scope, value):
     """Whether any value is a right statement in this scope, whatever its blocks are."""
     if not isinstance(value, tuple) or len(value) == 0:
         return False
-    if not isinstance(value[0], str) or value[0] not in STATEMENTS:
+    if not isinstance(value[0], str) or value[0] not in CHECKS or len(value) != SIZES[value[0]]:
         return False
-    many, check = STATEMENTS[value[0]]
-    return len(value) == many and check(scope, value)
+    check = CHECKS[value[0]]
+    return check(scope, value)
 
 
 def is_set(scope, value):
@@ -158,15 +158,16 @@ def is_skip(_, value):
     return is_number(value[1])
 
 
-STATEMENTS = {
-    "set": (3, is_set),
-    "put": (4, is_put),
-    "if": (4, is_choice),
-    "while": (3, is_choice),
-    "times": (3, is_times),
-    "out": (3, is_out),
-    "take": (3, is_take),
-    "skip": (2, is_skip),
+SIZES = {"set": 3, "put": 4, "if": 4, "while": 3, "times": 3, "out": 3, "take": 3, "skip": 2}
+CHECKS = {
+    "set": is_set,
+    "put": is_put,
+    "if": is_choice,
+    "while": is_choice,
+    "times": is_times,
+    "out": is_out,
+    "take": is_take,
+    "skip": is_skip,
 }
 
 

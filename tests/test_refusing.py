@@ -74,8 +74,8 @@ class RefusingRowTest(unittest.TestCase):
                 self.assertEqual(refusing_row(program(*lots)), row[:index + 1])
 
     def test_other_rows_of_the_example(self):
-        for value in (ROW[1:], ROW[:-1], ROW[::-1], (), (*ROW, ROW[-1]), (ROW[0], *ROW), (ROW[0], *ROW[2:]), ROW[:1], ROW[3:],
-                      (ROW[0], ("pc", "t", (1, 1)), *ROW[2:]), (("name", "t", "z"), *ROW[1:]), ROW + ROW,
+        for value in (ROW[1:], ROW[:-1], ROW[::-1], (), (*ROW, ROW[-1]), (ROW[0], *ROW), (ROW[0], *ROW[2:]), (*ROW[:2], ROW[3]), ROW[:1],
+                      ROW[3:], (ROW[0], ("pc", "t", (1, 1)), *ROW[2:]), (("name", "t", "z"), *ROW[1:]), ROW + ROW,
                       (ROW[0], ("pc", "t", (1.0, 0)), *ROW[2:]), (ROW[0], ("pc", "t", (True, False)), *ROW[2:])):
             self.assertIs(is_refusing_row(EXAMPLE, value), False, value)
 
