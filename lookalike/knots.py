@@ -1,5 +1,5 @@
 """Knots, the flows between them, and the levels and lots that are told of them."""
-from lookalike.parts import statement_blocks
+from lookalike.parts import placed_statements
 from lookalike.weaving import Weaver, name_knot, weave_owner, weave_result
 
 
@@ -7,19 +7,6 @@ def owners_of(program):
     """For each function and thread its name, its params and locals, and its block."""
     functions = [(function[0], function[1] + function[2], function[3]) for function in program[3]]
     return functions + list(program[4])
-
-
-def placed_statements(block):
-    """Pairs of a place and the statement there, for all statements in the block of an owner."""
-    found = []
-    waiting = [((), block)]
-    while waiting:
-        place, inner = waiting.pop()
-        for index, statement in enumerate(inner):
-            spot = (*place, index)
-            found.append((spot, statement))
-            waiting.extend([((*spot, side), under) for side, under in enumerate(statement_blocks(statement))])
-    return found
 
 
 def flows(program):

@@ -62,6 +62,41 @@ def statements_within(blocks):
     return found
 
 
+def placed_blocks(block):
+    """Pairs of a place and the block there: this one with (), and all within it, each behind those around it."""
+    found = []
+    waiting = [((), block)]
+    while waiting:
+        place, inner = waiting.pop()
+        found.append((place, inner))
+        for index, statement in enumerate(inner):
+            for side, under in enumerate(statement_blocks(statement)):
+                waiting.append(((*place, index, side), under))
+    return found
+
+
+def placed_statements(block):
+    """Pairs of a place and the statement there, for all statements in the block of an owner."""
+    found = []
+    for place, inner in placed_blocks(block):
+        found.extend([((*place, index), statement) for index, statement in enumerate(inner)])
+    return found
+
+
+def has_slots(block):
+    """Whether whoever goes through a block takes a slot: only "skip" 0, and "times" of 0 or of none, take none."""
+    waiting = [block]
+    while waiting:
+        inner = waiting.pop()
+        for statement in inner:
+            if statement[0] == "times":
+                if statement[1] > 0:
+                    waiting.append(statement[2])
+            elif statement[0] != "skip" or statement[1] > 0:
+                return True
+    return False
+
+
 def calls_within(expressions):
     """All calls in these expressions, those in args too."""
     return [part for part in expressions_within(expressions) if part[0] == "call"]

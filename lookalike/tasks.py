@@ -3,6 +3,7 @@
 A task is a pair (owner, work): the owner is the name of the thread or function
 in whose text the work stands, or "" if the work is an act.
 """
+from lookalike.parts import has_slots
 from lookalike.scopes import program_scopes, text_width
 
 
@@ -112,7 +113,8 @@ def unfold_while(_, owner, work):
 
 
 def unfold_times(_, owner, work):
-    if work[1] == 0:
+    # Rounds without slots are left out at once: there may be very many of them, within one another.
+    if work[1] == 0 or not has_slots(work[2]):
         return []
     return [*block_tasks(owner, work[2]), (owner, ("times", work[1] - 1, work[2]))]
 
