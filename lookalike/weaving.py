@@ -8,6 +8,22 @@ def name_knot(owner, places, name):
     return ("name", owner if name in places else "", name)
 
 
+def reads_of(owner, places, expressions):
+    """The knots of the names and called results in expressions of an owner, those within args left out."""
+    knots = []
+    waiting = list(expressions)
+    while waiting:
+        expression = waiting.pop()
+        word = expression[0]
+        if word == "call":
+            knots.append(("result", expression[1], ()))
+        else:
+            if word in ("name", "at"):
+                knots.append(name_knot(owner, places, expression[1]))
+            waiting.extend(expression_parts(expression))
+    return knots
+
+
 class Weaver:
     """The flows of a program, as far as they are found."""
 
@@ -30,19 +46,8 @@ class Weaver:
         return name_knot(self.owner, self.places, name)
 
     def reads(self, expressions):
-        """The knots of the names and called results in expressions, those within args left out."""
-        knots = []
-        waiting = list(expressions)
-        while waiting:
-            expression = waiting.pop()
-            word = expression[0]
-            if word == "call":
-                knots.append(("result", expression[1], ()))
-            else:
-                if word in ("name", "at"):
-                    knots.append(self.knot_of(expression[1]))
-                waiting.extend(expression_parts(expression))
-        return knots
+        """The reads of expressions in the text of the owner."""
+        return reads_of(self.owner, self.places, expressions)
 
     def clock_behind(self, place, index, statement):
         """The clock behind the statement with this index in the block at the place."""
