@@ -62,10 +62,14 @@ def block_tasks(owner, block):
 def unfold(text, todo):
     """Replace the next task of a todo, a list with the next task last, until that takes a slot."""
     while todo and todo[-1][0] != "" and todo[-1][1][0] in FOLDED:
-        owner, work = todo.pop()
-        action = FOLDED[work[0]]
-        tasks = action(text, owner, work)
-        todo.extend(list(reversed(tasks)))
+        todo.extend(list(reversed(in_place_of(text, todo.pop()))))
+
+
+def in_place_of(text, task):
+    """The tasks that stand in the place of a task which is a statement or expression."""
+    owner, work = task
+    action = FOLDED[work[0]]
+    return action(text, owner, work)
 
 
 def unfold_word(_, owner, work):

@@ -25,6 +25,23 @@ INTERFACE = {
     "labels": ["least_labels(program)", "are_standing(program, value)", "are_fitting(program, value)",
                "labelled(program)", "program_ends(program)"],
     "refusing": ["refusing_row(program)", "is_refusing_row(program, value)"],
+    "clocks": ["lot_of(program, owner, expression)", "rise_of(program, owner, block)", "moment_lots(program)"],
+    "faults": ["type_faults(program)", "two_sided(program, level)", "is_let_by(program)", "let_by(program)"],
+    "faultways": ["is_way(program, fault, value)", "way_of(program, fault)"],
+    "erasing": ["erased(program, level)"],
+    "spans": ["expression_span(program, expression)", "block_span(program, block)", "told_time(program, block)",
+              "thread_spans(program)"],
+    "times": ["block_times(program, block, most)", "begin_slots(program, name, place, most)"],
+    "sides": ["timed_ifs(program)", "even_ifs(program)", "closed_ifs(program, some)", "secret_ifs(program)"],
+    "padding": ["padded(program, some)", "padded_program(program)", "rests_in(program)"],
+    "code": ["is_instruction(value)", "is_image(value)", "successors(code, row)"],
+    "codetexts": ["image_text(image)", "read_image(text)"],
+    "states": ["start_state(image, inputs)", "is_over(state)"],
+    "machine": ["step_image(image, state)", "advance(image, state, ticks)", "run_image(image, inputs, ticks)",
+                "whole_run(image, inputs, most)", "thread_deeds(record, thread, many)"],
+    "compiling": ["compiled(program)", "code_sizes(program)", "spots(program)"],
+    "likeness": ["likeness(program, image)", "source_state(value, state)", "machine_states(value, state)"],
+    "papers": ["is_paper(image, value)", "end_lots(paper)", "landing(regions, number)", "veil(regions, number)"],
 }
 
 
