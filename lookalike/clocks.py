@@ -62,7 +62,7 @@ class MomentWalk:
             for index, statement in enumerate(inner):
                 spot = (*place, index)
                 blocks = statement_blocks(statement)
-                sides = [rises[(*spot, side)] for side in range(len(blocks))]
+                sides = [rises[spot + (side,)] for side in range(len(blocks))]
                 clock = self.begin(owner, statement, sides, clock)
                 self.found[(owner, spot)] = (choice, clock)
                 self.call(statement_expressions(statement), choice, clock)

@@ -65,7 +65,7 @@ class Measured:
         """What the statements of a block at a place come to; of blocks within them it is told by their places."""
         parts = []
         for index, statement in enumerate(block):
-            sides = [found[(*place, index, side)] for side in range(len(statement_blocks(statement)))]
+            sides = [found[place + (index, side)] for side in range(len(statement_blocks(statement)))]
             parts.append(self.statement(statement, sides))
         return self.measure.together(parts)
 

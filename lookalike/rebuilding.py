@@ -27,7 +27,7 @@ def rebuilt_block(block, change):
     for place, inner in reversed(placed_blocks(block)):
         statements = []
         for index, statement in enumerate(inner):
-            blocks = [made[(*place, index, side)] for side in range(len(statement_blocks(statement)))]
+            blocks = [made[place + (index, side)] for side in range(len(statement_blocks(statement)))]
             statements.append(change(with_blocks(statement, blocks)))
         made[place] = tuple(statements)
     return made[()]

@@ -59,7 +59,7 @@ class ToldLots:
         for place, inner in reversed(placed_blocks(block)):
             rise = ()
             for index, statement in enumerate(inner):
-                sides = [rises[(*place, index, side)] for side in range(len(statement_blocks(statement)))]
+                sides = [rises[place + (index, side)] for side in range(len(statement_blocks(statement)))]
                 rise = joined_lots(rise, self.statement_rise(owner, statement, sides))
             rises[place] = rise
         return rises

@@ -153,6 +153,11 @@ class LanguageTest(unittest.TestCase):
             if isinstance(node, ast.BinOp) and isinstance(node.op, ast.Pow):
                 self.assertIsInstance(node.right, ast.Constant, where)
 
+    def test_no_star_in_an_index(self):
+        for where, node in self.each_node():
+            if isinstance(node, ast.Subscript):
+                self.assertFalse(any(isinstance(part, ast.Starred) for part in ast.walk(node.slice)), where)
+
     def test_builtins_and_methods(self):
         own = set()
         for _, node in self.each_node():
