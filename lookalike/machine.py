@@ -27,7 +27,7 @@ class Machine:
     def __init__(self, image, state):
         self.box_widths = [width for _, width, _ in image[1]]
         self.row_widths = [width for _, width, _ in image[2]]
-        self.tick = state[0]
+        self.now = state[0]
         self.boxes = list(state[1])
         self.rows = [list(cells) for cells in state[2]]
         self.streams = [list(reversed(stream)) for stream in state[3]]
@@ -44,13 +44,18 @@ class Machine:
         threads = []
         for runner in self.runners:
             threads.append(None if runner is None else (runner.row, tuple(runner.words), tuple(runner.held)))
-        return (self.tick, tuple(self.boxes), rows, streams, tuple(threads))
+        return (self.now, tuple(self.boxes), rows, streams, tuple(threads))
+
+    def next_instruction(self):
+        """The instruction that is next, None if the thread whose tick it is has ended."""
+        runner = self.runners[self.now % len(self.runners)]
+        return None if runner is None else runner.code[runner.row]
 
     def step(self):
         """Let one tick pass, and tell its deed, or None."""
-        thread = self.tick % len(self.runners)
+        thread = self.now % len(self.runners)
         runner = self.runners[thread]
-        self.tick += 1
+        self.now += 1
         if runner is None:
             return None
         instruction = runner.code[runner.row]
@@ -65,11 +70,11 @@ class Machine:
     def advance(self, ticks):
         """Let so many ticks pass, fewer if all threads end ahead of that, and tell their record."""
         record = []
-        end = self.tick + ticks
-        while self.tick < end and self.going > 0:
+        end = self.now + ticks
+        while self.now < end and self.going > 0:
             deed = self.step()
             if deed is not None:
-                record.append((self.tick - 1, deed))
+                record.append((self.now - 1, deed))
         return tuple(record)
 
 
@@ -162,7 +167,7 @@ def advance(image, state, ticks):
     machine = Machine(image, state)
     record = machine.advance(ticks)
     # Where all threads have ended only the tick changes.
-    machine.tick = state[0] + ticks
+    machine.now = state[0] + ticks
     return (machine.state(), record)
 
 
@@ -175,7 +180,7 @@ def whole_run(image, inputs, most):
     """A pair of the record and the number of ticks until the run is over, None if these are more than so many."""
     machine = Machine(image, start_state(image, inputs))
     record = machine.advance(most)
-    return (record, machine.tick) if machine.going == 0 else None
+    return (record, machine.now) if machine.going == 0 else None
 
 
 def thread_deeds(record, thread, many):

@@ -11,7 +11,7 @@ class Play:
     """
 
     def __init__(self, program, state):
-        self.tick = state[0]
+        self.now = state[0]
         self.boxes = list(state[1])
         self.rows = [list(cells) for cells in state[2]]
         self.streams = [list(reversed(stream)) for stream in state[3]]
@@ -24,17 +24,17 @@ class Play:
         rows = tuple([tuple(cells) for cells in self.rows])
         streams = tuple([tuple(reversed(stream)) for stream in self.streams])
         threads = tuple([None if walker is None else walker.parts() for walker in self.walkers])
-        return (self.tick, tuple(self.boxes), rows, streams, threads)
+        return (self.now, tuple(self.boxes), rows, streams, threads)
 
     def turn(self):
         """The thread whose tick is next."""
-        return self.tick % len(self.walkers)
+        return self.now % len(self.walkers)
 
     def step(self):
         """Let one tick pass, and tell its deed, or None."""
         thread = self.turn()
         walker = self.walkers[thread]
-        self.tick += 1
+        self.now += 1
         if walker is None:
             return None
         if not walker.todo:
@@ -64,14 +64,14 @@ class Play:
     def advance(self, ticks):
         """Let so many ticks pass, and tell their record."""
         record = []
-        end = self.tick + ticks
-        while self.tick < end and any([walker is not None for walker in self.walkers]):
-            for _ in range(min(len(self.walkers), end - self.tick)):
+        end = self.now + ticks
+        while self.now < end and any([walker is not None for walker in self.walkers]):
+            for _ in range(min(len(self.walkers), end - self.now)):
                 deed = self.step()
                 if deed is not None:
-                    record.append((self.tick - 1, deed))
+                    record.append((self.now - 1, deed))
         # Where all threads have ended only the tick changes.
-        self.tick = end
+        self.now = end
         return tuple(record)
 
 

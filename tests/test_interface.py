@@ -42,6 +42,18 @@ INTERFACE = {
     "compiling": ["compiled(program)", "code_sizes(program)", "spots(program)"],
     "likeness": ["likeness(program, image)", "source_state(value, state)", "machine_states(value, state)"],
     "papers": ["is_paper(image, value)", "end_lots(paper)", "landing(regions, number)", "veil(regions, number)"],
+    "checker": ["row_fault(image, paper, thread, row)", "paper_fault(image, paper)", "is_checked(image, value)"],
+    "unwinding": ["fits_paper(image, paper, state)", "hidden_region(image, paper, level, thread, row)",
+                  "slots_left(paper, thread, row, region)", "alike_states(image, paper, level, one, other)",
+                  "unlike_part(image, paper, level, one, other)"],
+    "sidebyside": ["alike_ticks(image, paper, level, one, other, ticks)"],
+    "meetings": ["meeting(code, row)", "code_regions(code)"],
+    "leastpapers": ["least_paper(image)", "is_harmless(image)"],
+    "programpapers": ["program_paper(program)"],
+    "bare": ["bare_start(image)", "bare_step(image, bare, word)", "bare_deed(image, bare)", "words_in(image, bare)",
+             "bare_states(image, most)"],
+    "visible": ["sight_of(image, ends, level, bare)", "is_visible_machine(image, ends, level, value)",
+                "machine_record(value, inputs, ticks)"],
 }
 
 

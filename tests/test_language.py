@@ -85,6 +85,12 @@ class LanguageTest(unittest.TestCase):
                 if not isinstance(node, ast.ImportFrom):
                     continue
                 self.assertIn(node, tree.body, name)
+                if node.module == "heapq":
+                    for alias in node.names:
+                        self.assertIsNone(alias.asname)
+                        self.assertIn(alias.name, ("heappush", "heappop"))
+                        self.assertIn(alias.name, used, f"{name} does not use it")
+                    continue
                 self.assertTrue(node.module.startswith("lookalike."), name)
                 file = node.module[len("lookalike."):] + ".py"
                 leads[name].append(file)
@@ -127,7 +133,7 @@ class LanguageTest(unittest.TestCase):
             methods = [at for node in tree.body if isinstance(node, ast.ClassDef) for at in node.body]
             for bound, node in bound_names(tree):
                 where = f"{name}:{node.lineno} {bound}"
-                if bound == "__init__":
+                if bound in ("__init__", "__len__"):
                     continue
                 self.assertFalse(bound.startswith("__"), where)
                 self.assertNotIn(bound, NOWHERE + NO_VARIABLES, where)
@@ -139,7 +145,10 @@ class LanguageTest(unittest.TestCase):
     def test_statements_and_expressions(self):
         for where, node in self.each_node():
             if isinstance(node, ast.Try):
-                self.assertEqual([handler.type.id for handler in node.handlers], ["InvalidText"], where)
+                self.assertLessEqual({handler.type.id for handler in node.handlers}, {"InvalidText", "Refused"}, where)
+                for part in node.finalbody:
+                    self.assertIsInstance(part, ast.Assign, where)
+                    self.assertIsInstance(part.value, ast.Name, where)
             self.assertNotIsInstance(node, NO_STATEMENTS, where)
             self.assertNotIsInstance(node, (ast.Div, ast.Yield, ast.YieldFrom, ast.Lambda, ast.NamedExpr), where)
             if isinstance(node, ast.Constant):
@@ -157,6 +166,21 @@ class LanguageTest(unittest.TestCase):
         for where, node in self.each_node():
             if isinstance(node, ast.Subscript):
                 self.assertFalse(any(isinstance(part, ast.Starred) for part in ast.walk(node.slice)), where)
+
+    def test_no_name_is_a_method_and_an_attribute(self):
+        methods, attributes = set(), set()
+        for _, node in self.each_node():
+            if isinstance(node, ast.ClassDef):
+                methods.update(at.name for at in node.body if isinstance(at, ast.FunctionDef))
+            elif isinstance(node, ast.Attribute) and isinstance(node.ctx, ast.Store):
+                attributes.add(node.attr)
+        self.assertEqual(methods & attributes, set())
+
+    def test_double_underscores(self):
+        for name, tree in self.trees.items():
+            for node in ast.walk(tree):
+                if isinstance(node, ast.FunctionDef) and node.name == "__len__":
+                    self.assertEqual([ast.unparse(part) for part in node.body], ["return len(self.story.deeds)"], name)
 
     def test_builtins_and_methods(self):
         own = set()
