@@ -89,11 +89,11 @@ class Explored:
         self.nexts = []
         # For each state but the first one the index of one that leads to it, and the word by which it does.
         self.comings = []
-        self.find(bare_start(image), (0, 0))
+        self.number_of(bare_start(image), (0, 0))
         while len(self.nexts) < len(self.states):
             self.go_on(len(self.nexts))
 
-    def find(self, bare, coming):
+    def number_of(self, bare, coming):
         """The index of a bare state to which something leads."""
         if bare not in self.indexes:
             if len(self.states) >= self.most:
@@ -108,7 +108,7 @@ class Explored:
         bare = self.states[number]
         nexts = []
         for word in range(words_in(self.image, bare)):
-            nexts.append(self.find(bare_step(self.image, bare, word), (number, word)))
+            nexts.append(self.number_of(bare_step(self.image, bare, word), (number, word)))
         self.nexts.append(nexts)
 
 

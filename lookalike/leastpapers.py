@@ -39,7 +39,7 @@ class ThreadPaper:
         self.entries[row] = entry
         self.wake(row)
 
-    def find(self):
+    def spread(self):
         """Hand on until nothing is new; tell whether there is a least paper."""
         while self.waiting:
             row = heappop(self.waiting)
@@ -107,7 +107,7 @@ def together(lots, others):
 def least_paper(image):
     """The least paper of an image, None if there is none."""
     papers = [ThreadPaper(image, thread) for thread in range(len(image[3]))]
-    if not all([paper.find() for paper in papers]):
+    if not all([paper.spread() for paper in papers]):
         return None
     return tuple([paper.whole() for paper in papers])
 

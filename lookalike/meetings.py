@@ -70,5 +70,5 @@ def code_regions(code):
     many = len(found) + 1
     while len(found) < many:
         many = len(found)
-        found = {row: found[row] for row in found if all(other in found for other in inner[row])}
+        found = {begin: found[begin] for begin in found if all(other in found for other in inner[begin])}
     return tuple([found[row] for row in sorted(list(found))])

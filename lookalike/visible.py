@@ -82,8 +82,8 @@ def is_led_right(blocks, behind, sight, nexts):
 
 def machine_sights(value, ask, ticks):
     """The pairs of tick and sight that a machine tells, `ask` telling the word at a take by the pairs so far."""
-    blocks, rows = value
-    block = blocks[0]
+    _, rows = value
+    block = 0
     told = []
     for tick in range(ticks):
         sight, nexts = rows[block]

@@ -1,6 +1,8 @@
 """The names and arguments that the document lists, and promises [1] to [3] for all of them."""
 import importlib
 import inspect
+import os
+import re
 import unittest
 
 INTERFACE = {
@@ -54,10 +56,54 @@ INTERFACE = {
              "bare_states(image, most)"],
     "visible": ["sight_of(image, ends, level, bare)", "is_visible_machine(image, ends, level, value)",
                 "machine_record(value, inputs, ticks)"],
+    "watched": ["is_parting(image, ends, level, value)", "watched(image, ends, level, most)",
+                "least_machine(image, ends, level, value)"],
+    "groups": ["joined_image(image, lot)", "parting_levels(image, ends, most)"],
+    "wishes": ["wished_record(image, ends, level, wish, words, ticks)", "wished_machine_record(value, wish, ticks)"],
+    "telling": ["row_classes(image, ends, level, row, secrets, ticks)", "wish_classes(image, ends, level, wish, secrets, ticks)",
+                "telling_row(image, ends, level, one, other, ticks)"],
+    "making": ["made(text)", "sight(image, paper, inputs, level, ticks)", "first_unlike(image, paper, one, other, level, ticks)"],
+    "houses": [],
+    "sheets": ["sheet_holds(value)", "sheet(name, question)", "wrong_sheets(values)"],
+    "desk": [],
+}
+
+
+CLASSES = {
+    ("houses", "House"): ["__init__(self, text)", "__len__(self)", "inputs(self)", "ticks(self)", "record(self)", "see(self, level)",
+                          "give(self, level, word)", "tick(self, many)", "undo(self)", "within(self, work)"],
+    ("desk", "Desk"): ["__init__(self)", "load(self, text)", "say(self, command)"],
 }
 
 
 class InterfaceTest(unittest.TestCase):
+    def test_all_that_the_document_lists(self):
+        # The interface here is that of the document, where it stands beside the project.
+        path = os.path.join(os.path.dirname(__file__), "..", "..", "shared", "DOC.md")
+        if not os.path.exists(path):
+            self.skipTest("the document is not here")
+        with open(path, encoding="utf-8") as file:
+            told = file.read().split("# The interface")[1].split("## lookalike/")[1:]
+        names = {part.split(".py")[0]: re.findall("`([a-z_]+\\(.*?\\))`", part) for part in told}
+        self.assertEqual(sorted(names), sorted(INTERFACE))
+        for name, lines in INTERFACE.items():
+            if name not in ("houses", "desk"):
+                self.assertEqual(lines, names[name])
+
+    def test_classes(self):
+        for (name, word), methods in CLASSES.items():
+            module = importlib.import_module("lookalike." + name)
+            told = getattr(module, word)
+            self.assertEqual(told.__module__, module.__name__)
+            for line in methods:
+                method = vars(told)[line.split("(")[0]]
+                self.assertEqual(method.__name__ + str(inspect.signature(method)), line)
+
+    def test_attributes(self):
+        house = importlib.import_module("lookalike.houses").House("levels 1 within 0 { 0 } thread t { }")
+        self.assertLessEqual({"program", "image", "paper"}, set(vars(house)))
+        self.assertEqual(vars(importlib.import_module("lookalike.desk").Desk()), {"house": None})
+
     def test_names_and_arguments(self):
         for name, told in INTERFACE.items():
             module = importlib.import_module("lookalike." + name)
