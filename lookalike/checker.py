@@ -92,7 +92,7 @@ class ThreadChecker:
         own = self.begins.get(row)
         region, left = entry[3:]
         handed = handed_on(self.image, self.code[row], entry, self.regions, own)
-        lands = own is None and region is not None and left == 1
+        lands = own is None and left == 1
         for target in successors(self.code, row):
             if self.entries[target] is None or not self.takes(self.entries[target], handed):
                 return True

@@ -114,5 +114,4 @@ def least_paper(image):
 
 def is_harmless(image):
     """Whether an image has a least paper that is checked."""
-    paper = least_paper(image)
-    return paper is not None and is_checked(image, paper)
+    return is_checked(image, least_paper(image))

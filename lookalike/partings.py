@@ -53,7 +53,7 @@ class Search:
         if is_take(self.sights[one]):
             words = [(word, word) for word in range(max(len(here), len(there)))]
         else:
-            words = [(word, 0) for word in range(len(here))] + [(0, word) for word in range(len(there))]
+            words = [(word, 0) for word in range(len(here))] + [(0, word) for word in range(1, len(there))]
         for left, right in words:
             behind = (here[left % len(here)], there[right % len(there)])
             if behind[0] != behind[1]:

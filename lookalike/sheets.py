@@ -45,7 +45,7 @@ def takes_few_words(image):
 def find_paper(question):
     """The least paper of the image, None if there is none, or none that is checked."""
     paper = least_paper(question[0])
-    return paper if paper is not None and is_checked(question[0], paper) else None
+    return paper if is_checked(question[0], paper) else None
 
 
 def find_row(question):

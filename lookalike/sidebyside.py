@@ -13,9 +13,8 @@ def alike_ticks(image, paper, level, one, other, ticks):
     """
     view = View(image, paper, level)
     starts = [start_state(image, inputs) for inputs in (one, other)]
-    if not all(fits_paper(image, paper, state) for state in starts):
-        return -1
-    if view.unlike_between(starts[0], starts[1]) is not None:
+    # Both stand at the first rows, with nothing on their stacks: so they fit, or do not, together.
+    if not fits_paper(image, paper, starts[0]) or view.unlike_between(starts[0], starts[1]) is not None:
         return -1
     ends = end_lots(paper)
     machines = [Machine(image, state) for state in starts]

@@ -26,21 +26,16 @@ def is_take(sight):
     return sight is not None and sight[0] == "take"
 
 
-def is_sight(value):
-    """Whether any value is like a sight."""
-    if value is None:
-        return True
-    if not isinstance(value, tuple) or len(value) not in (2, 3) or not are_numbers(value[1:]):
-        return False
-    return isinstance(value[0], str) and value[0] in (("out",) if len(value) == 3 else ("end", "take"))
+def is_sight_like(value):
+    """Whether any value is None, or a tuple of something and one or two numbers."""
+    return value is None or (isinstance(value, tuple) and len(value) in (2, 3) and are_numbers(value[1:]))
 
 
-def is_machine_row(many, value):
-    """Whether any value is like a row of a machine with so many blocks."""
-    if not is_tuple_of(value, 2) or not is_sight(value[0]) or not are_numbers(value[1]):
+def is_machine_row(value):
+    """Whether any value is like a row of a machine, whatever its sight is, and whichever its blocks are."""
+    if not is_tuple_of(value, 2) or not is_sight_like(value[0]) or not are_numbers(value[1]):
         return False
-    sight, nexts = value
-    return len(nexts) == (WORDS if is_take(sight) else 1) and all(block < many for block in nexts)
+    return len(value[1]) == (WORDS if is_take(value[0]) else 1)
 
 
 def is_machine_like(value):
@@ -50,7 +45,7 @@ def is_machine_like(value):
     blocks, rows = value
     if len(blocks) == 0 or blocks[0] != 0 or sorted(set(blocks)) != list(range(len(rows))):
         return False
-    return all(is_machine_row(len(rows), row) for row in rows)
+    return all(is_machine_row(row) for row in rows)
 
 
 def is_visible_machine(image, ends, level, value):

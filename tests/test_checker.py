@@ -291,6 +291,20 @@ class FaultTest(unittest.TestCase):
                 lifted = replaced(paper, (0, 0, 2, 2), (0, 1, 2))
                 self.assertEqual(row_fault(image, lifted, 0, 1), "next")
 
+    def test_choices_with_more_words_on_the_stack(self):
+        # The word on top is taken, the others are kept.
+        image = one_thread(("else", 1), ("else", 2), ("rest",), ("end",), order=SIDES)
+        for stack, told in ((((0,), (1,)), None), (((1,), (0,)), "region"), (((0,), ()), None), (((), (0,)), "region")):
+            # Around is a region with the lot (1,).
+            entries = [at(((), (1,))), at(stack, region=0, left=2), at(stack[:1], region=0, left=1), None]
+            paper = of(entries, [(0, 3, (1,), 2, None, 0)])
+            self.assertEqual(row_fault(image, paper, 0, 1), told, stack)
+            # It begins a region itself.
+            entries = [None, at(stack), at(stack[:1], region=0, left=2), at(stack[:1], region=0, left=2)]
+            for lot in ((1,), (0,)):
+                paper = of(entries, [(1, 3, lot, 2, None, 0)])
+                self.assertEqual(row_fault(image, paper, 0, 1), None if set(stack[1]) <= set(lot) else "region", (stack, lot))
+
     def test_next(self):
         self.assertEqual(self.faults(IMAGE, with_entry(7, None)), [(0, 6, "next")])
         self.assertEqual(self.faults(IMAGE, with_entry(1, at(((0,),), ((),)))), [(0, 0, "next")])

@@ -109,6 +109,29 @@ class LeastTest(unittest.TestCase):
         self.assertEqual(paper[0][0][8], at(region=0, left=1))
         self.assertFalse(is_harmless(image))
 
+    def test_lots_of_regions_that_grow(self):
+        # A word that comes to the choice from behind adds a level to the region, and so to what is kept in it.
+        code = [PUSH, other(11), ("take", 0, 1), other(7), ("push", 1, 1), ("keep", 0), jump(10), REST, REST, REST, END, ("take", 1, 1), jump(3)]
+        image = one_thread(*code, widths=(1,), order=SIDES)
+        none, both, region = ((),), (0, 1), {"region": 0}
+        told = [at((), none), at(((),), none), at((), none), at((both,), none), at((), none, left=3, **region), at((both,), none, left=2, **region),
+                at((), (both,), left=1, **region), *[at((), none, left=left, **region) for left in (3, 2, 1)], at((), (both,)), at((), none),
+                at(((1,),), none)]
+        self.assertTrue(self.check(image, told, [(3, 10, both, 3, None, 0)]))
+
+    def test_words_below_the_one_of_a_choice(self):
+        code = [("take", 0, 1), ("take", 1, 1), other(5), REST, jump(7), REST, REST, ("keep", 0), END]
+        image = one_thread(*code, widths=(1,), order=SIDES)
+        none, low = ((),), ((0,),)
+        told = [at((), none), at(low, none), at(((0,), (1,)), none), *[at(low, none, region=0, left=left) for left in (2, 1, 2, 1)],
+                at(low, none), at((), low)]
+        self.assertTrue(self.check(image, told, [(2, 7, (1,), 2, None, 0)]))
+        # The same with no region: the clock is lifted by the word on top alone.
+        code = [("take", 0, 1), ("take", 1, 1), other(4), REST, ("keep", 0), END]
+        lift = {"clock": (1,)}
+        told = [at((), none), at(low, none), at(((0,), (1,)), none), at(low, none, **lift), at(low, none, **lift), at((), low, **lift)]
+        self.assertTrue(self.check(one_thread(*code, widths=(1,), order=SIDES), told, (), (1,)))
+
     def test_choices_that_nothing_leads_to(self):
         code = [jump(7), PUSH, other(5), REST, jump(7), REST, REST, END]
         image = one_thread(*code, order=SIDES)

@@ -141,6 +141,20 @@ class RowTest(unittest.TestCase):
         image = one_thread(("take", 0, 4), ("take", 1, 4), ("op", "add", 4), ("keep", 0), ("jump", 0), widths=(4,))
         self.assertIsNone(telling_row(image, ((),), 0, (1, 2, 3), (3, 2, 1), 1000000))
 
+    def test_takes_of_unlike_widths(self):
+        code = (("take", 1, 1), ("else", 4), ("take", 0, 1), ("jump", 6), ("take", 0, 2), ("jump", 6), ("keep", 0), ("local", 0), ("out", 0), END)
+        image = one_thread(*code, widths=(2,))
+        for one, other in (((0,), (1,)), ((1,), (0,))):
+            row = telling_row(image, ((),), 0, one, other, 20)
+            self.assertIn(row, ((2,), (3,)))
+            self.assertEqual(row_classes(image, ((),), 0, row, (one, other), 20), ((0,), (1,)))
+        self.assertIsNone(telling_row(image, ((),), 0, (3,), (1,), 20))
+
+    def test_secrets_that_are_kept_for_ever(self):
+        # States that are never the same, and never look unlike, come again and again.
+        image = one_thread(("take", 1, 4), ("keep", 0), ("take", 0, 2), ("out", 0), ("jump", 2), widths=(4,))
+        self.assertIsNone(telling_row(image, ((),), 0, (3,), (4,), 1000000))
+
     def check(self, image, ends, level, one, other, ticks, takes):
         """Hold a row against all rows of bits, no run having more takes than so many that are seen."""
         row = telling_row(image, ends, level, one, other, ticks)

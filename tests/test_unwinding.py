@@ -227,6 +227,15 @@ class AlikeTest(unittest.TestCase):
         self.check(image, paper, 0, self.state((1, (7, 1), (8,))), self.state((2, (7,), (9,))), ("thread", 0))
         self.check(image, paper, 0, self.state((4, (7,), (8,))), self.state((5, (6,), (8,))))
 
+    def test_hidden_regions_and_clocks(self):
+        # One clock is seen and the other one is not: so the thread is not alike, although as much of one region is left.
+        image = one_thread(("else", 1), *[("rest",)] * 3, ("end",), order=CHAIN)
+        regions = [(0, 4, (2,), 3, None, 0)]
+        paper = of([None, at(region=0, left=2), at(clock=(1,), region=0, left=2), at(clock=(1,), region=0, left=3), None], regions)
+        states = {row: self.state((row, (), ())) for row in (1, 2, 3)}
+        for level, here, there, alike in ((0, 1, 2, False), (1, 1, 2, True), (0, 2, 3, True), (1, 2, 3, False), (2, 1, 2, False)):
+            self.check(image, paper, level, states[here], states[there], *(() if alike else (("thread", 0),)))
+
     def test_several_threads(self):
         image = (CHAIN, (), (), (((), (("rest",), ("end",))),) * 3)
         paper = of([at(), at()]) * 3

@@ -185,6 +185,20 @@ class WatchedTest(unittest.TestCase):
         self.assertIs(is_parting(image, ((1,),), 0, value), True)
         self.assertLess(len(value[0]), 2 * len(bare_states(image, 5000)))
 
+    def test_takes_of_unlike_widths(self):
+        # Who takes one bit, and who takes two: words of two bits tell one from the other.
+        code = (("take", 1, 1), ("else", 4), ("take", 0, 1), ("jump", 6), ("take", 0, 2), ("jump", 6), ("keep", 0), ("local", 0), ("out", 0), END)
+        image = one_thread(*code, widths=(2,))
+        word, value = watched(image, ((),), 0, 500)
+        self.assertEqual((word, len(value[0])), ("parts", 6))
+        self.assertIs(is_parting(image, ((),), 0, value), True)
+        self.assertIn(value[0][2], (2, 3, 6, 7, 10, 11, 14, 15))
+        self.assertIsNotNone(PlainPairs(image, ((),), 0, bare_states(image, 500)).parts())
+        # The same if the one bit is all that is shown.
+        code = (*code[:8], ("push", 2, 1), ("op", "and", 2), ("out", 0), END)
+        image = one_thread(*code, widths=(2,))
+        self.assertEqual(watched(image, ((),), 0, 500), ("sees", PlainPairs(image, ((),), 0, bare_states(image, 500)).least()))
+
     def test_many_states(self):
         code = (("take", 1, 4), ("keep", 0), ("local", 0), ("else", 6), ("rest",), ("jump", 8), ("rest",), ("rest",), ("local", 1), ("push", 4, 1),
                 ("op", "add", 4), ("keep", 1), ("local", 1), ("out", 0), ("jump", 0))
