@@ -20,6 +20,8 @@ def change(maker, image, paper):
     entries, regions, end = paper[thread]
     way = maker.random.choice(["clock", "word", "word", "local", "local", "place", "left", "none", "copy", "region", "region", "lot", "end"])
     rows = [row for row, entry in enumerate(entries) if entry is not None]
+    if not rows:
+        return paper
     row = maker.random.choice(rows)
     stack, places, clock, region, left = entries[row]
     entry = entries[row]
