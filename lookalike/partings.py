@@ -46,14 +46,17 @@ class Search:
     def go_on(self, one, other, at):
         """Add the pairs behind two states of one sight, which are told by the pair with this index.
 
-        If the words are not seen, each state behind the one is put together
-        with the first one behind the other, and the other way round: so all are.
+        Each state is such a pair with itself: if the words are not seen, all
+        states behind it are put together by that, so of two states one word
+        each is enough.
         """
         here, there = self.nexts[one], self.nexts[other]
         if is_take(self.sights[one]):
             words = [(word, word) for word in range(max(len(here), len(there)))]
+        elif one == other:
+            words = [(0, word) for word in range(1, len(there))]
         else:
-            words = [(word, 0) for word in range(len(here))] + [(0, word) for word in range(1, len(there))]
+            words = [(0, 0)]
         for left, right in words:
             behind = (here[left % len(here)], there[right % len(there)])
             if behind[0] != behind[1]:
